@@ -33,6 +33,16 @@ func (c *class) isOrIsBelow(other *class) bool {
 	return false
 }
 
+// find goes up from c to the first class that has such a method; it answers both, or nil.
+func (c *class) find(selector string) (*class, *method) {
+	for ; c != nil; c = c.above {
+		if f := c.methods[selector]; f != nil {
+			return c, f
+		}
+	}
+	return nil, nil
+}
+
 // slots tells how many slots an object must have so that every slot that the method names is there.
 func (f *method) slots() int {
 	most := 0
@@ -55,4 +65,26 @@ func (m *Image) classOfObjects(name string) *class {
 // has tells whether there is an object of that number.
 func (m *Image) has(object int) bool {
 	return object >= 0 && object < len(m.objects)
+}
+
+// lacks tells whether a value is an object that there is not.
+func (m *Image) lacks(v Value) bool {
+	return v.Object && !m.has(v.N)
+}
+
+func (m *Image) classOf(v Value) *class {
+	if v.Object {
+		return m.objects[v.N].class
+	}
+	return m.classes[intName]
+}
+
+// find looks for a send's method from a class on; where there is no class to look from (nil), it has looked all the same.
+func (m *Image) find(from *class, selector string) (*class, *method) {
+	m.looks++
+	if from == nil {
+		return nil, nil
+	}
+	m.climbs++
+	return from.find(selector)
 }

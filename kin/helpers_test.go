@@ -46,6 +46,7 @@ func addObject(t *testing.T, m *Image, class string) {
 // state writes out all that an image keeps.
 func state(m *Image) string {
 	var b strings.Builder
+	fmt.Fprintf(&b, "sends %d %d\n", m.looks, m.climbs)
 	for _, name := range slices.Sorted(maps.Keys(m.classes)) {
 		c := m.classes[name]
 		above := ""
@@ -67,6 +68,10 @@ func state(m *Image) string {
 func hasMethod(m *Image, class, selector string) bool {
 	return m.Copy(class, selector, class) == OK
 }
+
+func number(n int) Value { return Value{N: n} }
+
+func objectOf(n int) Value { return Value{Object: true, N: n} }
 
 // both writes out an answer of two parts.
 func both[A, B any](a A, b B) string {

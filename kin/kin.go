@@ -1,7 +1,10 @@
 // Package kin: objects, their classes, and sends that remember what they found: see DOC.md.
 package kin
 
-import "strings"
+import (
+	"slices"
+	"strings"
+)
 
 // Errno is what a call answers: OK or the reason for a refusal.
 type Errno int
@@ -36,6 +39,9 @@ const (
 	maxSource  = 120
 	maxWords   = 40
 	maxStack   = 16
+	maxDepth   = 32
+	maxFuel    = 3000
+	maxArgs    = 3
 	maxPlaces  = 6
 	maxTable   = 64
 )
@@ -55,6 +61,8 @@ type Value struct {
 type Image struct {
 	classes map[string]*class
 	objects []object
+	looks   int // how many sends looked for a method
+	climbs  int // for how many of them the classes were gone through
 }
 
 // New makes an image (P2).
@@ -220,10 +228,17 @@ func (m *Image) Flush(selector string) Errno {
 	return OK // as yet no send remembers anything
 }
 
-// Send sends (P7): not built yet.
+// Send sends a selector from outside, and answers what was told and how it ended (P7).
 func (m *Image) Send(to Value, selector string, args []Value, fuel int) (Value, int, Errno) {
-	return Value{}, Told, OK
+	if !isSelector(selector) || argumentsOf(selector) != len(args) || fuel < 0 || fuel > maxFuel {
+		return Value{}, 0, ErrArg
+	}
+	if m.lacks(to) || slices.ContainsFunc(args, m.lacks) {
+		return Value{}, 0, ErrNone
+	}
+	told, end := m.sendFromOutside(to, selector, args, fuel)
+	return told, end, OK
 }
 
-// Sends tells how many sends looked for a method, and how many went through the classes (P8): not built yet.
-func (m *Image) Sends() (int, int) { return 0, 0 }
+// Sends tells how many sends looked for a method, and for how many the classes were gone through (P8).
+func (m *Image) Sends() (int, int) { return m.looks, m.climbs }

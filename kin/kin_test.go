@@ -466,6 +466,12 @@ func TestNothingHangsOnPlacesAndTable(t *testing.T) {
 			fmt.Fprintln(&b, m.Copy("A", "f/1", "C"), m.Move("B", "C"), m.Drop("A", "f/1"))
 			fmt.Fprintln(&b, both(m.Make("B")))
 			fmt.Fprintln(&b, m.Be(0, "A"), m.Flush(""), m.Flush("f/1"))
+			fmt.Fprintln(&b, both(m.Method("A", "g/1", "a0 =s1 self 1 2 h/1 ^h/1 + ret")), both(m.Method("Any", "dnu/1", "self be:B pop a0 ret")))
+			for range 3 {
+				v, end, e := m.Send(Value{Object: true}, "g/1", []Value{{N: 9}}, 20)
+				looks, _ := m.Sends()
+				fmt.Fprintln(&b, v, end, e, looks)
+			}
 			fmt.Fprintln(&b, both(m.Of(0)))
 			fmt.Fprintln(&b, both(m.Slot(0, 1)))
 			b.WriteString(state(m))

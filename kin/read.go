@@ -49,7 +49,7 @@ func (r *reader) className() string {
 // selector goes past a selector and answers it, or "" where there is none.
 func (r *reader) selector() string {
 	start := r.at
-	if r.span('a', 'z', maxLetters) == "" || !r.take('/') || r.span('0', '3', 1) == "" {
+	if r.span('a', 'z', maxLetters) == "" || !r.take('/') || r.span('0', '0'+maxArgs, 1) == "" {
 		return ""
 	}
 	return r.text[start:r.at]
@@ -154,7 +154,7 @@ behindLetters:
 		r.at = start // the letters are the selector's
 		return r.send(sendWord)
 	case letters == "a":
-		return r.numbered(argumentWord, '2', 1)
+		return r.numbered(argumentWord, '0'+maxArgs-1, 1)
 	case letters == "s":
 		return r.numbered(slotWord, '9', 1)
 	}

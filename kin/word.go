@@ -27,6 +27,7 @@ const (
 	moveWord
 	copyWord
 	tellWord
+	kinds // how many there are
 )
 
 // word is one word of a method.
@@ -76,7 +77,7 @@ type effect struct {
 }
 
 // effects has a row for each kind of word.
-var effects = [...]effect{
+var effects = [kinds]effect{
 	noWord:        {},
 	numberWord:    {lays: 1},
 	selfWord:      {lays: 1},
