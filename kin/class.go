@@ -3,14 +3,16 @@ package kin
 // class is a class of an image.
 type class struct {
 	name    string
+	number  int    // in the order in which they were made
 	above   *class // nil above Any alone
 	slots   int    // of its objects: those of the class above, and its own
 	methods map[string]*method
 }
 
-// method is never changed once it is made: classes that it was copied to share it.
+// method has words that are never changed once it is made: classes that it was copied to share it.
 type method struct {
 	words []word
+	homes int // how many classes have it
 }
 
 // object has as many slots as it was made with, whatever its class becomes.
@@ -19,8 +21,18 @@ type object struct {
 	slots []Value
 }
 
-func newClass(name string, above *class, slots int) *class {
-	return &class{name: name, above: above, slots: slots, methods: map[string]*method{}}
+func (m *Image) addClass(name string, above *class, slots int) {
+	m.classes[name] = &class{name: name, number: len(m.classes), above: above, slots: slots, methods: map[string]*method{}}
+}
+
+// newMethod makes a method of words, each that sends a place with a memory of its own.
+func newMethod(words []word) *method {
+	for i, w := range words {
+		if effects[w.kind].sends {
+			words[i].place = newPlace()
+		}
+	}
+	return &method{words: words}
 }
 
 // isOrIsBelow tells whether the way up from c comes to other.
@@ -31,16 +43,6 @@ func (c *class) isOrIsBelow(other *class) bool {
 		}
 	}
 	return false
-}
-
-// find goes up from c to the first class that has such a method; it answers both, or nil.
-func (c *class) find(selector string) (*class, *method) {
-	for ; c != nil; c = c.above {
-		if f := c.methods[selector]; f != nil {
-			return c, f
-		}
-	}
-	return nil, nil
 }
 
 // slots tells how many slots an object must have so that every slot that the method names is there.
@@ -77,14 +79,4 @@ func (m *Image) classOf(v Value) *class {
 		return m.objects[v.N].class
 	}
 	return m.classes[intName]
-}
-
-// find looks for a send's method from a class on; where there is no class to look from (nil), it has looked all the same.
-func (m *Image) find(from *class, selector string) (*class, *method) {
-	m.looks++
-	if from == nil {
-		return nil, nil
-	}
-	m.climbs++
-	return from.find(selector)
 }

@@ -99,13 +99,13 @@ func (r *run) goOnIfZero(w word) {
 func (r *run) sendToTaken(w word) {
 	args := r.top.takeArguments(w.n)
 	to := r.top.take()
-	r.send(r.classOf(to), to, w.selector, args)
+	r.send(w.place, question{r.classOf(to), w.selector}, to, args)
 }
 
 // sendFromAbove asks for the class above only now: the running method's class may have been moved.
 func (r *run) sendFromAbove(w word) {
 	args := r.top.takeArguments(w.n)
-	r.send(r.top.class.above, r.top.self, w.selector, args)
+	r.send(w.place, question{r.top.class.above, w.selector}, r.top.self, args)
 }
 
 func (r *run) makeObject(w word) {

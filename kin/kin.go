@@ -57,12 +57,15 @@ type Value struct {
 	N      int
 }
 
-// Image is classes and objects. Make it by New.
+// Image is classes and objects, and what sends remember of them. Make it by New.
 type Image struct {
 	classes map[string]*class
 	objects []object
-	looks   int // how many sends looked for a method
-	climbs  int // for how many of them the classes were gone through
+	looks   int                 // how many sends looked for a method
+	climbs  int                 // for how many of them the classes were gone through
+	places  int                 // how many classes a place that sends may remember
+	senders map[string]placeSet // by selectors: the places that send them, of all methods that classes have
+	table   rowTable
 }
 
 // New makes an image (P2).
@@ -71,11 +74,15 @@ func New(places int, table int) (*Image, Errno) {
 	if places < 0 || places > maxPlaces || !powerOfTwo || table > maxTable {
 		return nil, ErrArg
 	}
-	root := newClass(rootName, nil, 0)
-	return &Image{classes: map[string]*class{
-		rootName: root,
-		intName:  newClass(intName, root, 0),
-	}}, OK
+	m := &Image{
+		classes: map[string]*class{},
+		places:  places,
+		senders: map[string]placeSet{},
+		table:   rowTable{size: table},
+	}
+	m.addClass(rootName, nil, 0)
+	m.addClass(intName, m.classes[rootName], 0)
+	return m, OK
 }
 
 // Class makes a class (P3).
@@ -97,8 +104,7 @@ func (m *Image) Class(name string, above string, slots int) Errno {
 	if len(m.classes) == maxClasses {
 		return ErrFull
 	}
-	name = strings.Clone(name) // the one handed in may be a piece of a far greater text
-	m.classes[name] = newClass(name, over, over.slots+slots)
+	m.addClass(strings.Clone(name), over, over.slots+slots) // the name handed in may be a piece of a far greater text
 	return OK
 }
 
@@ -124,7 +130,7 @@ func (m *Image) Method(class string, selector string, source string) (Errno, int
 	if at := checkStack(words); at >= 0 {
 		return ErrStack, starts[at]
 	}
-	c.methods[strings.Clone(selector)] = &method{words: words}
+	m.give(c, strings.Clone(selector), newMethod(words))
 	return OK, 0
 }
 
@@ -137,7 +143,7 @@ func (m *Image) Drop(class string, selector string) Errno {
 	if c.methods[selector] == nil {
 		return ErrNone
 	}
-	delete(c.methods, selector)
+	m.takeAway(c, selector)
 	return OK
 }
 
@@ -154,6 +160,7 @@ func (m *Image) Move(class string, above string) Errno {
 	if over.slots != c.above.slots {
 		return ErrSize
 	}
+	m.classMoves(c)
 	c.above = over
 	return OK
 }
@@ -171,7 +178,7 @@ func (m *Image) Copy(class string, selector string, to string) Errno {
 	if copied.slots() > into.slots {
 		return ErrSlot
 	}
-	into.methods[strings.Clone(selector)] = copied
+	m.give(into, strings.Clone(selector), copied)
 	return OK
 }
 
@@ -225,7 +232,12 @@ func (m *Image) Flush(selector string) Errno {
 	if selector != "" && !isSelector(selector) {
 		return ErrArg
 	}
-	return OK // as yet no send remembers anything
+	if selector == "" {
+		m.forgetAll()
+	} else {
+		m.forgetSelector(selector)
+	}
+	return OK
 }
 
 // Send sends a selector from outside, and answers what was told and how it ended (P7).

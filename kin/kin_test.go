@@ -474,12 +474,12 @@ func TestNothingHangsOnPlacesAndTable(t *testing.T) {
 			}
 			fmt.Fprintln(&b, both(m.Of(0)))
 			fmt.Fprintln(&b, both(m.Slot(0, 1)))
-			b.WriteString(state(m))
+			b.WriteString(seen(m))
 			if first == "" {
 				first = b.String()
 			}
 			if b.String() != first {
-				t.Errorf("P1: with %d, %d the answers are\n%s not\n%s", places, table, b.String(), first)
+				t.Fatalf("P1: with %d, %d the answers are\n%s not\n%s", places, table, b.String(), first)
 			}
 		}
 	}

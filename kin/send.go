@@ -40,7 +40,7 @@ func (m *Image) sendFromOutside(to Value, selector string, args []Value, fuel in
 		}
 	}()
 	r := &run{Image: m, does: doings(), fuel: fuel}
-	r.send(r.classOf(to), to, selector, args)
+	r.send(nowhere(), question{r.classOf(to), selector}, to, args)
 	r.runFrames()
 	return r.told, Told
 }
@@ -71,21 +71,21 @@ func (r *run) burn() {
 	r.fuel--
 }
 
-// send finds a method from a class on (nil above Any) and lets it be the one that runs.
-func (r *run) send(from *class, to Value, selector string, args []Value) {
-	home, found := r.find(from, selector)
-	if found == nil {
-		home, found = r.find(from, unknown)
+// send finds the method that a place asks for and lets it be the one that runs.
+func (r *run) send(at *place, q question, to Value, args []Value) {
+	found := r.find(at, q)
+	if found.method == nil {
+		found = r.find(nowhere(), question{q.from, unknown})
 		args = []Value{{N: len(args)}}
 	}
-	if found == nil {
+	if found.method == nil {
 		panic(gaveUp(Lost))
 	}
 	if r.depth == maxDepth {
 		panic(gaveUp(Deep))
 	}
 	r.depth++
-	next := &frame{method: found, class: home, self: to, sender: r.top}
+	next := &frame{method: found.method, class: found.home, self: to, sender: r.top}
 	copy(next.args[:], args)
 	r.top = next
 }

@@ -33,10 +33,11 @@ const (
 // word is one word of a method.
 type word struct {
 	kind     kind
-	n        int // the number; the argument's, the slot's or the place's; how many arguments are sent
+	n        int // the number; the argument's or the slot's; where to go on; how many arguments are sent
 	class    string
 	selector string
 	second   string // the second class of those that name two
+	place    *place // of those of a method that send
 }
 
 // spelling is a word that is always written the same, or the head of one that names a class.
